@@ -35,16 +35,24 @@ func NewCore(h api.Hart, memory []byte) (Core, bool) {
 	return Core{Hart: h, Memory: bytes.Clone(memory)}, true
 }
 
-// Step does one step of a hart that runs.
-func (c *Core) Step() {
-	w, ok := mem.Load(c.Memory, api.LW, c.PC)
+// Fetch answers the instruction at pc, and 0; else an empty one, and the cause by which a hart traps there.
+func Fetch(memory []byte, pc uint32) (api.Ins, int) {
+	w, ok := mem.Load(memory, api.LW, pc)
 	if !ok {
-		c.Trap(api.CauseFetch)
-		return
+		return api.Ins{}, api.CauseFetch
 	}
 	i, ok := decode.Decode(w)
 	if !ok {
-		c.Trap(api.CauseWord)
+		return api.Ins{}, api.CauseWord
+	}
+	return i, 0
+}
+
+// Step does one step of a hart that runs.
+func (c *Core) Step() {
+	i, cause := Fetch(c.Memory, c.PC)
+	if cause != 0 {
+		c.Trap(cause)
 		return
 	}
 	c.do(i)

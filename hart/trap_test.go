@@ -123,3 +123,18 @@ func TestNoMoreSteps(t *testing.T) {
 		checkRefused(t, "behind the end", got, gotM)
 	}
 }
+
+// TestFetch: D2: the instruction at a place, and 0; where there is none, an empty one and the cause.
+func TestFetch(t *testing.T) {
+	m := append(lay(make([]byte, 16), 4, 0xfff00093, 115), 19, 0, 0)
+	for pc, want := range map[uint32]api.Ins{4: {Op: api.ADDI, Rd: 1, Imm: -1}, 8: {Op: api.ECALL}} {
+		if i, cause := hart.Fetch(m, pc); i != want || cause != 0 {
+			t.Errorf("at %d: %v, %d", pc, i, cause)
+		}
+	}
+	for pc, want := range map[uint32]int{0: api.CauseWord, 12: api.CauseWord, 5: api.CauseFetch, 6: api.CauseFetch, 16: api.CauseFetch, 20: api.CauseFetch, ones: api.CauseFetch, ones - 3: api.CauseFetch} {
+		if i, cause := hart.Fetch(m, pc); i != (api.Ins{}) || cause != want {
+			t.Errorf("at %d: %v, %d", pc, i, cause)
+		}
+	}
+}
